@@ -16,10 +16,13 @@ def bytes_of(text):
 
 
 class LaceCase(unittest.TestCase):
+    # How long a test may take.
+    seconds = 60
+
     def setUp(self):
         # A text that is worked step by step where it need not be would go on for ever: it is to fail.
         signal.signal(signal.SIGALRM, self.stop)
-        signal.alarm(60)
+        signal.alarm(self.seconds)
         self.addCleanup(signal.alarm, 0)
 
     def stop(self, *_):

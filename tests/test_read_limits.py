@@ -84,6 +84,7 @@ class TooManyActs(LaceCase):
 
 
 class VeryManyActs(LaceCase):
+    seconds = 5
     LETS = ["let a = 99999*c", "let b = 99999*a 99999*a", "let e = 99999*b", "let f = 2*e 99999*e"]
 
     def deep_lets(self):
@@ -130,6 +131,8 @@ class VeryManyActs(LaceCase):
 
 
 class NothingWorkedOften(LaceCase):
+    seconds = 5
+
     def nested(self, *body):
         return ["pairs 2"] + ["repeat 99999"] * 8 + list(body) + ["end"] * 8
 
