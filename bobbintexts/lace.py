@@ -1,7 +1,8 @@
-"""The calls on bobbin lace: read tells which working a text means, or its first fault."""
+"""The calls on bobbin lace: read tells which working a text means, or its first fault; write writes a working."""
 
 MOST_BYTES = 16384
 MOST_ACTS = 4096
+MOST_WRITTEN = 512
 MOST_PAIRS = 32
 MOST_DEEP = 8
 MOST_LETTERS = 12
@@ -15,6 +16,9 @@ WRONG_PAIR = 3
 WRONG_REPEAT = 4
 TOO_MANY_ACTS = 5
 FAULT = -5
+
+WRONG_SIZE = -1
+NO_ACT = -5
 
 NO_NUMBER = -1
 CROSS = 64
@@ -286,3 +290,71 @@ def read(t):
     if len(reading.worked) > MOST_ACTS:
         return [FAULT, TOO_MANY_ACTS, reading.worked[MOST_ACTS][1]]
     return [0, reading.pairs] + [entry[0] for entry in reading.worked]
+
+
+def is_act(number, pairs):
+    """Whether a number is an act of so many pairs."""
+    if number >= CROSS:
+        return number - CROSS + 1 < pairs
+    return number < pairs
+
+
+def first_place(act):
+    """The left one of an act's two places."""
+    if act >= CROSS:
+        return 2 * (act - CROSS) + 1
+    return 2 * act
+
+
+def touch(one, other):
+    """Whether two acts have a place in common."""
+    # The two places of an act stand side by side, so its left one tells both.
+    return abs(first_place(one) - first_place(other)) < 2
+
+
+def form_of(acts):
+    """The first of all workings that are the same lace as these acts."""
+    form = []
+    for act in acts:
+        # The acts so far are in their form, and none of them waits for the new one: they keep their order,
+        # and it stands ahead of the first greater one that it can come to, or behind them all.
+        at = len(form)
+        goal = at
+        while at > 0 and not touch(form[at - 1], act):
+            at = at - 1
+            if form[at] > act:
+                goal = at
+        form.insert(goal, act)
+    return form
+
+
+def act_line(act, times):
+    """The line that works an act so many times."""
+    word = "twist"
+    place = act
+    if act >= CROSS:
+        word = "cross"
+        place = act - CROSS
+    return f"{word} {place} {times}\n"
+
+
+def act_lines(acts):
+    """The lines that work acts, each for as many alike as stand together."""
+    lines = []
+    start = 0
+    for at in range(len(acts)):
+        if at + 1 == len(acts) or acts[at + 1] != acts[at]:
+            lines.append(act_line(acts[at], at + 1 - start))
+            start = at + 1
+    return lines
+
+
+def write(n, a):
+    """Write a working of n pairs: 0, the bytes of a text that means its lace's form; or -1 or -5, the refusal."""
+    if n < 1 or n > MOST_PAIRS or len(a) > MOST_WRITTEN:
+        return [WRONG_SIZE]
+    for number in a:
+        if not is_act(number, n):
+            return [NO_ACT]
+    text = f"pairs {n}\n" + "".join(act_lines(form_of(a)))
+    return [0] + [ord(sign) for sign in text]

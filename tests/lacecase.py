@@ -1,8 +1,8 @@
-"""What the tests of read have in common."""
+"""What the tests of read and write have in common."""
 import signal
 import unittest
 
-from bobbintexts.lace import read
+from bobbintexts.lace import read, write
 
 
 def text_of(*lines):
@@ -43,3 +43,7 @@ class LaceCase(unittest.TestCase):
         """A line behind others that work nothing works these acts."""
         with self.subTest(line=line):
             self.assertMeans([*before, line], int(before[0].split()[1]), acts)
+
+    def assertWrites(self, pairs, acts, lines):
+        """A working is written as these lines."""
+        self.assertEqual(write(pairs, list(acts)), [0, *bytes_of(text_of(*lines))])

@@ -12,7 +12,7 @@ NODES = {
     "Break", "Continue", "Pass", "Raise", "Expr", "Call", "keyword", "Name", "Load", "Store", "Constant", "Attribute",
     "Subscript", "Slice", "List", "Tuple", "Dict", "ListComp", "comprehension", "IfExp", "BoolOp", "And", "Or",
     "UnaryOp", "Not", "USub", "BinOp", "Add", "Sub", "Mult", "FloorDiv", "Mod", "Compare", "Eq", "NotEq", "Lt", "LtE",
-    "Gt", "GtE", "In", "NotIn", "Is", "IsNot",
+    "Gt", "GtE", "In", "NotIn", "Is", "IsNot", "JoinedStr", "FormattedValue",
 }
 CALLED = {"len", "range", "enumerate", "zip", "min", "max", "sum", "abs", "sorted", "reversed", "int", "str", "bool",
           "list", "tuple", "dict", "isinstance", "ord", "any", "all", "divmod"}
@@ -68,6 +68,9 @@ class Language(unittest.TestCase):
                     self.assertEqual(node.orelse, [])
                 if isinstance(node, ast.Assign):
                     self.assertEqual(len(node.targets), 1)
+                if isinstance(node, ast.FormattedValue):
+                    self.assertIsInstance(node.value, ast.Name)
+                    self.assertIsNone(node.format_spec)
 
     def test_names(self):
         for text, tree in self.each_file():
